@@ -1,0 +1,103 @@
+package rules
+
+import (
+	"go/ast"
+	"go/importer"
+	"go/token"
+	"go/types"
+	"testing"
+)
+
+// layer is the files of one package, and the types of what stands in them.
+type layer struct {
+	files []*ast.File
+	info  types.Info
+}
+
+// projects finds the project's own packages beside this one; the library's come from std.
+type projects struct {
+	all  []source
+	set  *token.FileSet
+	std  types.Importer
+	done map[string]*types.Package
+}
+
+func (p *projects) Import(path string) (*types.Package, error) {
+	if len(path) < 9 || path[:9] != "penstock/" {
+		return p.std.Import(path)
+	}
+	if p.done[path] == nil {
+		_, pack, err := p.load(path[9:])
+		if err != nil {
+			return nil, err
+		}
+		p.done[path] = pack
+	}
+	return p.done[path], nil
+}
+
+func (p *projects) load(pack string) (layer, *types.Package, error) {
+	l := layer{info: types.Info{Types: map[ast.Expr]types.TypeAndValue{}}}
+	for _, s := range p.all {
+		if s.pack == pack {
+			l.files = append(l.files, s.tree)
+		}
+	}
+	config := types.Config{Importer: p}
+	made, err := config.Check("penstock/"+pack, p.set, l.files, &l.info)
+	return l, made, err
+}
+
+func read(t *testing.T, pack string) layer {
+	t.Helper()
+	all := sources(t)
+	set := all[0].set
+	p := &projects{all: all, set: set, std: importer.ForCompiler(set, "source", nil), done: map[string]*types.Package{}}
+	l, _, err := p.load(pack)
+	if err != nil {
+		t.Fatal(err)
+	}
+	return l
+}
+
+// inside says whether a node for which is holds stands in the function of that name.
+func (l layer) inside(name string, is func(ast.Node) bool) bool {
+	found := false
+	for _, f := range l.files {
+		for _, d := range f.Decls {
+			if x, ok := d.(*ast.FuncDecl); ok && x.Name.Name == name {
+				ast.Inspect(x, func(n ast.Node) bool {
+					found = found || n != nil && is(n)
+					return true
+				})
+			}
+		}
+	}
+	return found
+}
+
+func (l layer) rangesOverString(n ast.Node) bool {
+	r, ok := n.(*ast.RangeStmt)
+	if !ok {
+		return false
+	}
+	b, ok := l.info.Types[r.X].Type.Underlying().(*types.Basic)
+	return ok && b.Info()&types.IsString != 0
+}
+
+func fallsThrough(n ast.Node) bool {
+	b, ok := n.(*ast.BranchStmt)
+	return ok && b.Tok == token.FALLTHROUGH
+}
+
+func TestWaysOfDatum(t *testing.T) {
+	l := read(t, "datum")
+	for _, name := range []string{"Length", "quote", "unquote"} {
+		if !l.inside(name, l.rangesOverString) {
+			t.Errorf("%s does not range over a string", name)
+		}
+	}
+	if !l.inside("wellFormed", fallsThrough) {
+		t.Error("the fields of a kind are not checked in a switch with fallthrough")
+	}
+}
