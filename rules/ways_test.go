@@ -66,10 +66,7 @@ func (l layer) inside(name string, is func(ast.Node) bool) bool {
 	for _, f := range l.files {
 		for _, d := range f.Decls {
 			if x, ok := d.(*ast.FuncDecl); ok && x.Name.Name == name {
-				ast.Inspect(x, func(n ast.Node) bool {
-					found = found || n != nil && is(n)
-					return true
-				})
+				found = found || holds(x, is)
 			}
 		}
 	}
@@ -99,5 +96,70 @@ func TestWaysOfDatum(t *testing.T) {
 	}
 	if !l.inside("wellFormed", fallsThrough) {
 		t.Error("the fields of a kind are not checked in a switch with fallthrough")
+	}
+}
+
+// callsBuiltin is whether a node calls the language's own function of that name.
+func callsBuiltin(name string) func(ast.Node) bool {
+	return func(n ast.Node) bool {
+		call, ok := n.(*ast.CallExpr)
+		if !ok {
+			return false
+		}
+		f, ok := call.Fun.(*ast.Ident)
+		return ok && f.Name == name
+	}
+}
+
+// holds says whether a node for which is holds stands within n.
+func holds(n ast.Node, is func(ast.Node) bool) bool {
+	found := false
+	ast.Inspect(n, func(n ast.Node) bool {
+		found = found || n != nil && is(n)
+		return true
+	})
+	return found
+}
+
+// assertsAlone says whether n is an assertion of one value, to a type of its own.
+func (l layer) assertsAlone(n ast.Node) bool {
+	a, ok := n.(*ast.TypeAssertExpr)
+	if !ok || a.Type == nil {
+		return false
+	}
+	asserted := l.info.Types[a].Type
+	_, two := asserted.(*types.Tuple)
+	return !two && !types.IsInterface(asserted)
+}
+
+// defersRecovery says whether n defers a function literal that recovers, and asserts what it recovered.
+func (l layer) defersRecovery(n ast.Node) bool {
+	d, ok := n.(*ast.DeferStmt)
+	if !ok {
+		return false
+	}
+	f, ok := d.Call.Fun.(*ast.FuncLit)
+	return ok && holds(f, callsBuiltin("recover")) && holds(f, l.assertsAlone)
+}
+
+func (l layer) asksMapOfTexts(n ast.Node) bool {
+	x, ok := n.(*ast.IndexExpr)
+	if !ok {
+		return false
+	}
+	m, ok := l.info.Types[x.X].Type.Underlying().(*types.Map)
+	return ok && types.Identical(m.Key(), types.Typ[types.String])
+}
+
+func TestWaysOfRow(t *testing.T) {
+	l := read(t, "row")
+	if !l.inside("must", callsBuiltin("panic")) {
+		t.Error("the reader of bytes does not panic")
+	}
+	if !l.inside("row", l.defersRecovery) {
+		t.Error("what the reader panics with is not recovered in a deferred function that asserts that it is its own")
+	}
+	if !l.inside("Sum", l.asksMapOfTexts) {
+		t.Error("equal rows are not found in a map, by their encodings")
 	}
 }
