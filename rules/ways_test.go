@@ -163,3 +163,71 @@ func TestWaysOfRow(t *testing.T) {
 		t.Error("equal rows are not found in a map, by their encodings")
 	}
 }
+
+// mapsToMethodExpressions says whether n is a map written out, whose values are method expressions alone.
+func (l layer) mapsToMethodExpressions(n ast.Node) bool {
+	table, ok := n.(*ast.CompositeLit)
+	if !ok || len(table.Elts) == 0 {
+		return false
+	}
+	if _, ok := l.info.Types[table].Type.Underlying().(*types.Map); !ok {
+		return false
+	}
+	for _, e := range table.Elts {
+		value, ok := e.(*ast.KeyValueExpr).Value.(*ast.SelectorExpr)
+		if !ok || !l.info.Types[value.X].IsType() {
+			return false
+		}
+	}
+	return true
+}
+
+func (l layer) asksMapOfFunctions(n ast.Node) bool {
+	x, ok := n.(*ast.IndexExpr)
+	if !ok {
+		return false
+	}
+	m, ok := l.info.Types[x.X].Type.Underlying().(*types.Map)
+	return ok && holdsFunction(m.Elem())
+}
+
+func holdsFunction(t types.Type) bool {
+	_, ok := t.Underlying().(*types.Signature)
+	return ok
+}
+
+func (l layer) rangesOverFunction(n ast.Node) bool {
+	r, ok := n.(*ast.RangeStmt)
+	return ok && holdsFunction(l.info.Types[r.X].Type)
+}
+
+// asksAs says whether n calls errors.As for an error whose type embeds api's numbers.
+func (l layer) asksAs(n ast.Node) bool {
+	call, ok := n.(*ast.CallExpr)
+	if !ok || len(call.Args) != 2 || types.ExprString(call.Fun) != "errors.As" {
+		return false
+	}
+	target, ok := l.info.Types[call.Args[1]].Type.(*types.Pointer)
+	if !ok {
+		return false
+	}
+	s, ok := target.Elem().Underlying().(*types.Struct)
+	return ok && s.NumFields() == 1 && s.Field(0).Embedded() && s.Field(0).Name() == "Errno"
+}
+
+func TestWaysOfExpr(t *testing.T) {
+	l := read(t, "expr")
+	if !l.inside("effects", l.mapsToMethodExpressions) || !l.inside("value", l.asksMapOfFunctions) {
+		t.Error("the effects of operators are not in a map of method expressions, made by a function")
+	}
+	for _, name := range []string{"Eval", "Type"} {
+		if !l.inside(name, l.asksAs) {
+			t.Errorf("%s does not ask by errors.As for an error that embeds its number", name)
+		}
+	}
+	for _, name := range []string{"valid", "Safe", "Columns", "Turn"} {
+		if !l.inside(name, l.rangesOverFunction) {
+			t.Errorf("%s does not range over a function", name)
+		}
+	}
+}
