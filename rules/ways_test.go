@@ -231,3 +231,40 @@ func TestWaysOfExpr(t *testing.T) {
 		}
 	}
 }
+
+// passesClosure is whether a node calls the function of that name with a function literal.
+func passesClosure(name string) func(ast.Node) bool {
+	return func(n ast.Node) bool {
+		call, ok := n.(*ast.CallExpr)
+		if !ok || types.ExprString(call.Fun) != name {
+			return false
+		}
+		for _, a := range call.Args {
+			if _, ok := a.(*ast.FuncLit); ok {
+				return true
+			}
+		}
+		return false
+	}
+}
+
+func (l layer) rangesOverInteger(n ast.Node) bool {
+	r, ok := n.(*ast.RangeStmt)
+	if !ok {
+		return false
+	}
+	b, ok := l.info.Types[r.X].Type.Underlying().(*types.Basic)
+	return ok && b.Info()&types.IsInteger != 0
+}
+
+func TestWaysOfStamp(t *testing.T) {
+	l := read(t, "stamp")
+	for _, name := range []string{"Join", "Meet"} {
+		if !l.inside(name, passesClosure("chosen")) {
+			t.Errorf("%s does not pass the choice at each position as a closure", name)
+		}
+	}
+	if !l.inside("PathLeq", l.rangesOverInteger) {
+		t.Error("paths are not compared position by position by ranging over integers")
+	}
+}
