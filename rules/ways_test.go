@@ -268,3 +268,23 @@ func TestWaysOfStamp(t *testing.T) {
 		t.Error("paths are not compared position by position by ranging over integers")
 	}
 }
+
+// calls is whether a node calls the function of that name.
+func calls(name string) func(ast.Node) bool {
+	return func(n ast.Node) bool {
+		call, ok := n.(*ast.CallExpr)
+		return ok && types.ExprString(call.Fun) == name
+	}
+}
+
+func TestWaysOfChain(t *testing.T) {
+	l := read(t, "chain")
+	for _, name := range []string{"add", "Count"} {
+		if !l.inside(name, l.asksMapOfTexts) || !l.inside(name, calls("stamp.Print")) {
+			t.Errorf("%s does not ask a map of counts by the text form of a time", name)
+		}
+	}
+	if !l.inside("add", callsBuiltin("delete")) {
+		t.Error("counts that are 0 are not deleted")
+	}
+}
