@@ -288,3 +288,52 @@ func TestWaysOfChain(t *testing.T) {
 		t.Error("counts that are 0 are not deleted")
 	}
 }
+
+// leavesByLabel says whether n is a loop with a label, by which something inside leaves it.
+func leavesByLabel(n ast.Node) bool {
+	l, ok := n.(*ast.LabeledStmt)
+	if !ok {
+		return false
+	}
+	_, loop := l.Stmt.(*ast.ForStmt)
+	return loop && holds(l, func(n ast.Node) bool {
+		b, ok := n.(*ast.BranchStmt)
+		return ok && b.Tok == token.BREAK && b.Label != nil && b.Label.Name == l.Label.Name
+	})
+}
+
+func isPort(t types.Type) bool {
+	n, ok := t.(*types.Named)
+	return ok && n.Obj().Name() == "Port" && n.Obj().Pkg().Path() == "penstock/api"
+}
+
+func (l layer) comparesPorts(n ast.Node) bool {
+	b, ok := n.(*ast.BinaryExpr)
+	return ok && b.Op == token.EQL && isPort(l.info.Types[b.X].Type) && isPort(l.info.Types[b.Y].Type)
+}
+
+func (l layer) asksMapOfPorts(n ast.Node) bool {
+	x, ok := n.(*ast.IndexExpr)
+	if !ok {
+		return false
+	}
+	m, ok := l.info.Types[x.X].Type.Underlying().(*types.Map)
+	return ok && isPort(m.Key())
+}
+
+func TestWaysOfFlow(t *testing.T) {
+	l := read(t, "flow")
+	if !l.inside("follow", leavesByLabel) {
+		t.Error("the list of work is not left by a label")
+	}
+	for _, name := range []string{"follow", "Targets"} {
+		if !l.inside(name, l.comparesPorts) {
+			t.Errorf("%s does not compare ports as structs", name)
+		}
+	}
+	for _, name := range []string{"follow", "visit"} {
+		if !l.inside(name, l.asksMapOfPorts) {
+			t.Errorf("%s does not ask a map by ports", name)
+		}
+	}
+}
