@@ -337,3 +337,27 @@ func TestWaysOfFlow(t *testing.T) {
 		}
 	}
 }
+
+func (l layer) rangesOverMap(n ast.Node) bool {
+	r, ok := n.(*ast.RangeStmt)
+	if !ok {
+		return false
+	}
+	_, ok = l.info.Types[r.X].Type.Underlying().(*types.Map)
+	return ok
+}
+
+func TestWaysOfTrack(t *testing.T) {
+	l := read(t, "track")
+	if !l.inside("Frontier", l.rangesOverMap) {
+		t.Error("points are not visited by ranging over a map")
+	}
+	if !l.inside("between", l.asksMapOfPorts) || !l.inside("between", calls("flow.Ways")) {
+		t.Error("paths are not computed when they are needed, and asked from a map by ports")
+	}
+	for _, name := range []string{"New", "Update", "pathsOf"} {
+		if l.inside(name, calls("flow.Ways")) || l.inside(name, calls("flow.All")) {
+			t.Errorf("%s computes paths ahead of their need", name)
+		}
+	}
+}
