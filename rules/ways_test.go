@@ -361,3 +361,39 @@ func TestWaysOfTrack(t *testing.T) {
 		}
 	}
 }
+
+// promotes says whether n calls the method of that name of a tracker that is embedded in what it is called on.
+func (l layer) promotes(name string) func(ast.Node) bool {
+	return func(n ast.Node) bool {
+		x, ok := n.(*ast.SelectorExpr)
+		if !ok || x.Sel.Name != name {
+			return false
+		}
+		s, ok := l.info.Types[x.X].Type.Underlying().(*types.Struct)
+		return ok && s.NumFields() > 0 && s.Field(0).Embedded() && s.Field(0).Name() == "Tracker"
+	}
+}
+
+// asksMapOfPairs says whether n asks a map whose keys are arrays of two numbers.
+func (l layer) asksMapOfPairs(n ast.Node) bool {
+	x, ok := n.(*ast.IndexExpr)
+	if !ok {
+		return false
+	}
+	m, ok := l.info.Types[x.X].Type.Underlying().(*types.Map)
+	return ok && types.Identical(m.Key(), types.NewArray(types.Typ[types.Int], 2))
+}
+
+func TestWaysOfGossip(t *testing.T) {
+	l := read(t, "gossip")
+	for call, method := range map[string]string{"Post": "Update", "Deliver": "Update", "Frontier": "Frontier", "Done": "Done"} {
+		if !l.inside(call, l.promotes(method)) {
+			t.Errorf("%s does not call the %s of an embedded tracker", call, method)
+		}
+	}
+	for _, name := range []string{"Post", "take", "Waiting"} {
+		if !l.inside(name, l.asksMapOfPairs) {
+			t.Errorf("%s does not ask for a list of posts by a pair of workers", name)
+		}
+	}
+}

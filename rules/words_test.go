@@ -61,7 +61,7 @@ func TestErrors(t *testing.T) {
 		api.ErrDatumOver: "errno 10", api.ErrDatumZero: "errno 11", api.ErrDatumLong: "errno 12", api.ErrDatumForm: "errno 13",
 		api.ErrRowForm: "errno 20", api.ErrExprForm: "errno 30", api.ErrExprType: "errno 31",
 		api.ErrStampForm: "errno 40", api.ErrStampOver: "errno 41", api.ErrFlowForm: "errno 60", api.ErrFlowCycle: "errno 61",
-		api.ErrTrackForm: "errno 70",
+		api.ErrTrackForm: "errno 70", api.ErrGossipForm: "errno 80",
 	} {
 		if error(e).Error() != want {
 			t.Errorf("%v, not %s", e, want)
