@@ -397,3 +397,30 @@ func TestWaysOfGossip(t *testing.T) {
 		}
 	}
 }
+
+// goesAround says whether n is a remainder by the length of a list.
+func goesAround(n ast.Node) bool {
+	b, ok := n.(*ast.BinaryExpr)
+	return ok && b.Op == token.REM && holds(b.Y, callsBuiltin("len"))
+}
+
+// makesPair says whether n is an array of two numbers, written out.
+func (l layer) makesPair(n ast.Node) bool {
+	x, ok := n.(*ast.CompositeLit)
+	return ok && types.Identical(l.info.Types[x].Type, types.NewArray(types.Typ[types.Int], 2))
+}
+
+func TestWaysOfMail(t *testing.T) {
+	l := read(t, "mail")
+	for _, name := range []string{"put", "take"} {
+		if !l.inside(name, calls("r.write")) || l.inside(name, callsBuiltin("append")) {
+			t.Errorf("%s does not write in the list of fixed length", name)
+		}
+	}
+	if !l.inside("write", callsBuiltin("copy")) || !l.inside("slot", goesAround) {
+		t.Error("rings are not written by copy, at indexes that go around")
+	}
+	if !l.inside("Ready", l.makesPair) {
+		t.Error("the channels that have messages are not told as a list of arrays")
+	}
+}

@@ -62,6 +62,7 @@ func TestErrors(t *testing.T) {
 		api.ErrRowForm: "errno 20", api.ErrExprForm: "errno 30", api.ErrExprType: "errno 31",
 		api.ErrStampForm: "errno 40", api.ErrStampOver: "errno 41", api.ErrFlowForm: "errno 60", api.ErrFlowCycle: "errno 61",
 		api.ErrTrackForm: "errno 70", api.ErrGossipForm: "errno 80",
+		api.ErrMailForm: "errno 90", api.ErrMailNone: "errno 91",
 	} {
 		if error(e).Error() != want {
 			t.Errorf("%v, not %s", e, want)
