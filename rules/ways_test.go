@@ -424,3 +424,64 @@ func TestWaysOfMail(t *testing.T) {
 		t.Error("the channels that have messages are not told as a list of arrays")
 	}
 }
+
+// asksMapOfStructs says whether n asks a map whose keys are structs of two texts.
+func (l layer) asksMapOfStructs(n ast.Node) bool {
+	x, ok := n.(*ast.IndexExpr)
+	if !ok {
+		return false
+	}
+	m, ok := l.info.Types[x.X].Type.Underlying().(*types.Map)
+	if !ok {
+		return false
+	}
+	key, ok := m.Key().Underlying().(*types.Struct)
+	return ok && key.NumFields() == 2 && types.Identical(key.Field(0).Type(), types.Typ[types.String]) && types.Identical(key.Field(1).Type(), types.Typ[types.String])
+}
+
+// leavesRangeByLabel says whether n is a loop over a list, with a label, by which a loop over the list of that name inside leaves it.
+func leavesRangeByLabel(inner string) func(ast.Node) bool {
+	return func(n ast.Node) bool {
+		l, ok := n.(*ast.LabeledStmt)
+		if !ok {
+			return false
+		}
+		_, loop := l.Stmt.(*ast.RangeStmt)
+		return loop && holds(l, func(n ast.Node) bool {
+			r, ok := n.(*ast.RangeStmt)
+			return ok && types.ExprString(r.X) == inner && holds(r, func(n ast.Node) bool {
+				b, ok := n.(*ast.BranchStmt)
+				return ok && b.Tok == token.BREAK && b.Label != nil && b.Label.Name == l.Label.Name
+			})
+		})
+	}
+}
+
+// growsList says whether n appends to the list of that name, and makes it that.
+func growsList(name string) func(ast.Node) bool {
+	return func(n ast.Node) bool {
+		a, ok := n.(*ast.AssignStmt)
+		if !ok || len(a.Lhs) != 1 || types.ExprString(a.Lhs[0]) != name {
+			return false
+		}
+		call, ok := a.Rhs[0].(*ast.CallExpr)
+		return ok && callsBuiltin("append")(call) && types.ExprString(call.Args[0]) == name
+	}
+}
+
+func TestWaysOfDelta(t *testing.T) {
+	l := read(t, "delta")
+	if !l.inside("Sum", l.asksMapOfStructs) || !l.inside("Sum", calls("stamp.Print")) {
+		t.Error("rows and times are not combined by a map")
+	}
+	if !l.inside("Of", calls("slices.SortedFunc")) || !l.inside("visit", growsList("h.bases")) || !l.inside("Of", leavesRangeByLabel("h.bases")) {
+		t.Error("times are not visited in their order, over a list that grows and is left by a label")
+	}
+	ranges := func(n ast.Node) bool {
+		r, ok := n.(*ast.RangeStmt)
+		return ok && types.ExprString(r.X) == "l.list" && holds(r, calls("l.add"))
+	}
+	if !l.inside("join", ranges) || !l.inside("add", growsList("l.list")) {
+		t.Error("joins are not found over a list that grows")
+	}
+}
