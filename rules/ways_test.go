@@ -5,6 +5,7 @@ import (
 	"go/importer"
 	"go/token"
 	"go/types"
+	"slices"
 	"testing"
 )
 
@@ -483,5 +484,53 @@ func TestWaysOfDelta(t *testing.T) {
 	}
 	if !l.inside("join", ranges) || !l.inside("add", growsList("l.list")) {
 		t.Error("joins are not found over a list that grows")
+	}
+}
+
+// embeds says whether the struct of that name embeds a part.
+func (l layer) embeds(name, part string) bool {
+	is := func(n ast.Node) bool {
+		x, ok := n.(*ast.TypeSpec)
+		if !ok || x.Name.Name != name {
+			return false
+		}
+		s, ok := x.Type.(*ast.StructType)
+		return ok && slices.ContainsFunc(s.Fields.List, func(f *ast.Field) bool {
+			return len(f.Names) == 0 && types.ExprString(f.Type) == part
+		})
+	}
+	return slices.ContainsFunc(l.files, func(f *ast.File) bool { return holds(f, is) })
+}
+
+// listsMethodValues says whether n is a list written out, of methods that are bound to something, and are not called there.
+func (l layer) listsMethodValues(n ast.Node) bool {
+	list, ok := n.(*ast.CompositeLit)
+	if !ok || len(list.Elts) == 0 {
+		return false
+	}
+	s, ok := l.info.Types[list].Type.Underlying().(*types.Slice)
+	return ok && holdsFunction(s.Elem()) && !slices.ContainsFunc(list.Elts, func(e ast.Expr) bool {
+		x, ok := e.(*ast.SelectorExpr)
+		return !ok || l.info.Types[x.X].IsType()
+	})
+}
+
+// rangesOverFunctions says whether n visits the functions of a list, and calls them.
+func (l layer) rangesOverFunctions(n ast.Node) bool {
+	r, ok := n.(*ast.RangeStmt)
+	if !ok {
+		return false
+	}
+	s, ok := l.info.Types[r.X].Type.Underlying().(*types.Slice)
+	return ok && holdsFunction(s.Elem()) && holds(r, calls(types.ExprString(r.Value)))
+}
+
+func TestWaysOfSpine(t *testing.T) {
+	l := read(t, "spine")
+	if !l.embeds("pair", "batch") || !l.inside("owed", calls("p.size")) {
+		t.Error("a batch is not embedded in the pair that is being merged")
+	}
+	if !l.inside("Work", l.listsMethodValues) || !l.inside("Work", l.rangesOverFunctions) {
+		t.Error("work does not proceed through a list of method values")
 	}
 }

@@ -63,6 +63,7 @@ func TestErrors(t *testing.T) {
 		api.ErrStampForm: "errno 40", api.ErrStampOver: "errno 41", api.ErrFlowForm: "errno 60", api.ErrFlowCycle: "errno 61",
 		api.ErrTrackForm: "errno 70", api.ErrGossipForm: "errno 80",
 		api.ErrMailForm: "errno 90", api.ErrMailNone: "errno 91",
+		api.ErrSpineForm: "errno 110", api.ErrSpineEarly: "errno 111",
 	} {
 		if error(e).Error() != want {
 			t.Errorf("%v, not %s", e, want)
