@@ -38,7 +38,7 @@ func (p *projects) Import(path string) (*types.Package, error) {
 }
 
 func (p *projects) load(pack string) (layer, *types.Package, error) {
-	l := layer{info: types.Info{Types: map[ast.Expr]types.TypeAndValue{}}}
+	l := layer{info: types.Info{Types: map[ast.Expr]types.TypeAndValue{}, Selections: map[*ast.SelectorExpr]*types.Selection{}}}
 	for _, s := range p.all {
 		if s.pack == pack {
 			l.files = append(l.files, s.tree)
@@ -532,5 +532,46 @@ func TestWaysOfSpine(t *testing.T) {
 	}
 	if !l.inside("Work", l.listsMethodValues) || !l.inside("Work", l.rangesOverFunctions) {
 		t.Error("work does not proceed through a list of method values")
+	}
+}
+
+// visitsHandles says whether n ranges over a map whose keys are handles.
+func (l layer) visitsHandles(n ast.Node) bool {
+	if !l.rangesOverMap(n) {
+		return false
+	}
+	m := l.info.Types[n.(*ast.RangeStmt).X].Type.Underlying().(*types.Map)
+	p, ok := m.Key().(*types.Pointer)
+	if !ok {
+		return false
+	}
+	h, ok := p.Elem().(*types.Named)
+	return ok && h.Obj().Name() == "Handle"
+}
+
+// promoted says whether n asks a handle for a method of that name, which is promoted to it.
+func (l layer) promoted(name string) func(ast.Node) bool {
+	return func(n ast.Node) bool {
+		x, ok := n.(*ast.SelectorExpr)
+		if !ok || x.Sel.Name != name || types.ExprString(x.X) != "h" {
+			return false
+		}
+		s := l.info.Selections[x]
+		return s != nil && s.Kind() == types.MethodVal && len(s.Index()) > 1
+	}
+}
+
+func TestWaysOfShare(t *testing.T) {
+	l := read(t, "share")
+	if !l.inside("settle", l.visitsHandles) {
+		t.Error("what the handles hold is not determined by ranging over a map of them")
+	}
+	if !l.embeds("Handle", "*trace") {
+		t.Error("a trace is not embedded in its handles")
+	}
+	for call, method := range map[string]string{"Next": "upper", "Allow": "settle", "Drop": "settle"} {
+		if !l.inside(call, l.promoted(method)) {
+			t.Errorf("%s does not call the method %s that is promoted to a handle", call, method)
+		}
 	}
 }
