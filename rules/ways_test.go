@@ -575,3 +575,36 @@ func TestWaysOfShare(t *testing.T) {
 		}
 	}
 }
+
+// rangesOverUpdates says whether n visits the updates of a list.
+func (l layer) rangesOverUpdates(n ast.Node) bool {
+	r, ok := n.(*ast.RangeStmt)
+	if !ok {
+		return false
+	}
+	s, ok := l.info.Types[r.X].Type.Underlying().(*types.Slice)
+	if !ok {
+		return false
+	}
+	u, ok := s.Elem().(*types.Named)
+	return ok && u.Obj().Name() == "Update"
+}
+
+// outcomesOf says whether n ranges over what a function tells that is called for one update.
+func (l layer) outcomesOf(name string) func(ast.Node) bool {
+	return func(n ast.Node) bool {
+		return l.rangesOverFunction(n) && calls(name)(n.(*ast.RangeStmt).X)
+	}
+}
+
+func TestWaysOfLinear(t *testing.T) {
+	l := read(t, "linear")
+	for _, name := range []string{"Map", "Filter", "Project", "Negate", "Move", "Part"} {
+		if !l.inside(name, passesClosure("each")) || l.inside(name, l.rangesOverUpdates) {
+			t.Errorf("%s does not pass its operation as a closure to the one function that enumerates updates", name)
+		}
+	}
+	if !l.inside("each", l.rangesOverUpdates) || !l.inside("each", l.outcomesOf("operation")) {
+		t.Error("the results for one update are not enumerated by ranging over a function")
+	}
+}
