@@ -608,3 +608,45 @@ func TestWaysOfLinear(t *testing.T) {
 		t.Error("the results for one update are not enumerated by ranging over a function")
 	}
 }
+
+// methodOf says whether n asks what is written like that for a method of a type of that name.
+func (l layer) methodOf(typ, on string) func(ast.Node) bool {
+	return func(n ast.Node) bool {
+		x, ok := n.(*ast.SelectorExpr)
+		if !ok || types.ExprString(x.X) != on {
+			return false
+		}
+		s := l.info.Selections[x]
+		if s == nil || s.Kind() != types.MethodVal {
+			return false
+		}
+		p, ok := s.Recv().(*types.Pointer)
+		if !ok {
+			return false
+		}
+		named, ok := p.Elem().(*types.Named)
+		return ok && named.Obj().Name() == typ
+	}
+}
+
+func TestWaysOfJoin(t *testing.T) {
+	l := read(t, "join")
+	for _, side := range []string{"j.left", "j.right"} {
+		for _, call := range []string{"Push", "Compact", "Len"} {
+			if !l.inside(call, l.methodOf("side", side)) {
+				t.Errorf("%s does not call a method of %s", call, side)
+			}
+		}
+		if !l.inside("Push", l.outcomesOf(side+".matches")) {
+			t.Errorf("new updates are not matched with %s by ranging over a function", side)
+		}
+	}
+	for _, name := range []string{"group", "add"} {
+		if !l.inside(name, l.asksMapOfTexts) {
+			t.Errorf("%s does not ask a map by text forms", name)
+		}
+	}
+	if !l.inside("text", calls("row.Print")) {
+		t.Error("the texts that sides are searched by are not text forms")
+	}
+}
