@@ -650,3 +650,47 @@ func TestWaysOfJoin(t *testing.T) {
 		t.Error("the texts that sides are searched by are not text forms")
 	}
 }
+
+// tablesFunctions says whether n is a map written out, whose values are functions.
+func (l layer) tablesFunctions(n ast.Node) bool {
+	table, ok := n.(*ast.CompositeLit)
+	if !ok || len(table.Elts) == 0 {
+		return false
+	}
+	m, ok := l.info.Types[table].Type.Underlying().(*types.Map)
+	return ok && holdsFunction(m.Elem())
+}
+
+// returnsClosure says whether n hands out a function literal.
+func returnsClosure(n ast.Node) bool {
+	r, ok := n.(*ast.ReturnStmt)
+	if !ok || len(r.Results) == 0 {
+		return false
+	}
+	_, ok = r.Results[0].(*ast.FuncLit)
+	return ok
+}
+
+// growsWhileRanged says whether n visits the list of that name, and appends to it meanwhile.
+func growsWhileRanged(name string) func(ast.Node) bool {
+	return func(n ast.Node) bool {
+		r, ok := n.(*ast.RangeStmt)
+		return ok && types.ExprString(r.X) == name && holds(r, growsList(name))
+	}
+}
+
+func TestWaysOfReduce(t *testing.T) {
+	l := read(t, "reduce")
+	if !l.inside("group", l.asksMapOfTexts) || !l.inside("group", calls("row.Print")) {
+		t.Error("groups are not in a map, by the text forms of their keys")
+	}
+	if !l.inside("join", growsWhileRanged("*l")) || !l.inside("join", calls("stamp.Join")) {
+		t.Error("the times of a group are not found by a list that grows while it is ranged over")
+	}
+	if !l.inside("aggregations", l.tablesFunctions) || !l.inside("aggregate", l.asksMapOfFunctions) {
+		t.Error("aggregations are not in a table of functions")
+	}
+	if !l.inside("utmost", returnsClosure) {
+		t.Error("no aggregation is a closure")
+	}
+}

@@ -65,7 +65,7 @@ func TestErrors(t *testing.T) {
 		api.ErrMailForm: "errno 90", api.ErrMailNone: "errno 91",
 		api.ErrSpineForm: "errno 110", api.ErrSpineEarly: "errno 111",
 		api.ErrShareForm: "errno 120", api.ErrShareSince: "errno 121",
-		api.ErrJoinForm: "errno 140",
+		api.ErrJoinForm: "errno 140", api.ErrReduceForm: "errno 150", api.ErrMirMinus: "errno 191",
 	} {
 		if error(e).Error() != want {
 			t.Errorf("%v, not %s", e, want)
